@@ -20,6 +20,10 @@ OUTSIDE = {"open", "input", "print", "exec", "eval", "compile", "id", "hash", "g
 FUNCTIONS = {
     "cells.py": {"alike": ["one", "other"], "before": ["one", "other"]},
     "clauses.py": {"holds": ["clause", "row"], "places_of": ["clause"], "turned": ["clause", "places"]},
+    "shapes.py": {"width": ["query", "widths"]},
+    "plain.py": {"answer": ["query", "tables"]},
+    "plans.py": {"plan": ["query", "widths"], "planned": ["query", "widths", "tables"]},
+    "works.py": {"work": ["query", "tables"]},
 }
 CLASSES = {
     "errors.py": {"QueryError": ["ValueError"], "NoStep": ["QueryError"], "NoTable": ["QueryError"],
